@@ -43,6 +43,7 @@ var (
 	errState    = errors.New("state")
 	errSyntax   = errors.New("syntax")
 	errNotFound = errors.New("notfound")
+	errBudget   = errors.New("budget")
 )
 
 // Garment has a colour, heats and a weight.
@@ -82,6 +83,8 @@ func codeOf(err error) int64 {
 		return ErrSyntax
 	case errors.Is(err, errNotFound):
 		return ErrNotFound
+	case errors.Is(err, errBudget):
+		return ErrBudget
 	}
 	return ErrProof // no check returns any other error
 }
