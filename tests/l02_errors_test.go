@@ -87,8 +87,8 @@ func setCount(count int) func(a *hung) {
 	}
 }
 
-func allOf(changes ...func(a *hung)) func(a *hung) {
-	return func(a *hung) {
+func allOf[A any](changes ...func(a *A)) func(a *A) {
+	return func(a *A) {
 		for _, change := range changes {
 			change(a)
 		}
