@@ -79,20 +79,9 @@ func TestEqualArgumentsOfMarksGetEqualResults(t *testing.T) {
 	}
 }
 
-// TestClassesHoweverTheGoroutinesRun makes calls on few and on many processors, and several at the same time.
-func TestClassesHoweverTheGoroutinesRun(t *testing.T) {
-	tell := func() string {
-		text := ""
-		for stitches := int64(1); stitches <= 12; stitches++ {
-			class, most, code := impl.BestClass(stitches)
-			text += fmt.Sprint(class, " ", most, " ", code)
-			for class := range stitches + 1 {
-				list, code := impl.ClassMarks(stitches, class)
-				text += fmt.Sprint(list, code)
-			}
-		}
-		return text
-	}
+// checkHoweverRun has a text of results told on few and on many processors, and several times at once.
+func checkHoweverRun(t *testing.T, tell func() string) {
+	t.Helper()
 	want := tell()
 	usual := runtime.GOMAXPROCS(0)
 	defer runtime.GOMAXPROCS(usual)
@@ -112,23 +101,46 @@ func TestClassesHoweverTheGoroutinesRun(t *testing.T) {
 	}
 }
 
-// TestNothingOfAClassGoesOn looks for goroutines that are left behind, also where a class has too many marks.
-func TestNothingOfAClassGoesOn(t *testing.T) {
+// checkNothingGoesOn looks for goroutines that many uses leave behind.
+func checkNothingGoesOn(t *testing.T, use func()) {
+	t.Helper()
 	before := runtime.NumGoroutine()
 	for range 100 {
+		use()
+	}
+	for range 1000 {
+		runtime.Gosched() // one that has sent its last result may still have to end
+	}
+	if after := runtime.NumGoroutine(); after > before+50 {
+		t.Errorf("%d goroutines before, and %d after", before, after)
+	}
+}
+
+func TestClassesHoweverTheGoroutinesRun(t *testing.T) {
+	checkHoweverRun(t, func() string {
+		text := ""
+		for stitches := int64(1); stitches <= 12; stitches++ {
+			class, most, code := impl.BestClass(stitches)
+			text += fmt.Sprint(class, " ", most, " ", code)
+			for class := range stitches + 1 {
+				list, code := impl.ClassMarks(stitches, class)
+				text += fmt.Sprint(list, code)
+			}
+		}
+		return text
+	})
+}
+
+// TestNothingOfAClassGoesOn has also classes with too many marks.
+func TestNothingOfAClassGoesOn(t *testing.T) {
+	checkNothingGoesOn(t, func() {
 		for stitches := int64(0); stitches <= 13; stitches++ {
 			impl.BestClass(stitches)
 			impl.ClassMarks(stitches, 0)
 			impl.ClassMarks(stitches, stitches)
 			impl.ClassMarks(stitches, stitches+1)
 		}
-	}
-	for range 1000 {
-		runtime.Gosched() // one that has sent its last mark may still have to end
-	}
-	if after := runtime.NumGoroutine(); after > before+50 {
-		t.Errorf("%d goroutines before, and %d after", before, after)
-	}
+	})
 }
 
 func TestNoMarksAreAsEmpty(t *testing.T) {
